@@ -105,6 +105,8 @@ func fill(v reflect.Value) {
 	switch v.Kind() {
 	case reflect.Int:
 		v.SetInt(filler)
+	case reflect.Bool:
+		v.SetBool(true)
 	case reflect.Struct:
 		for i := range v.NumField() {
 			fill(v.Field(i))
