@@ -323,6 +323,9 @@ func TestFair(t *testing.T) {
 	if impl.Fair([]impl.Shelf{s, withJob(free, 1, zero, impl.CdFull)}) || !impl.Fair([]impl.Shelf{withJob(s, 1, zero, 0), withJob(free, 1, zero, impl.CdFull)}) {
 		t.Error("a job with the serial 0 is taken for none")
 	}
+	if impl.Fair([]impl.Shelf{withJob(s, 1, zero, 0), free, withJob(free, 1, zero, impl.CdFull)}) {
+		t.Error("no job is taken for the job with the serial 0")
+	}
 }
 
 func TestTablePeak(t *testing.T) {
