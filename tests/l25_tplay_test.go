@@ -96,6 +96,46 @@ func TestTableRounds(t *testing.T) {
 	}
 }
 
+// longSearches returns a table with a chain of all nodes that there can be, and queues full of searches for the last one.
+func longSearches() impl.Table {
+	cmds := slices.Repeat([]impl.Cmd{get(0)}, 6)
+	fill := []impl.Batch{batch(put(0, 5), put(2, 5), put(4, 5), put(6, 5), put(8, 5), put(10, 5)), batch(put(12, 5), put(14, 5), put(16, 5), put(18, 5), put(20, 5), put(22, 5))}
+	x := impl.TableFinish(impl.TableNew(batches(fill, nil, nil)))
+	for w := range x.Todo {
+		x.Todo[w].List = slices.Repeat([]impl.Batch{batch(cmds...)}, 12)
+	}
+	return x
+}
+
+// A workload that needs more than 3000 steps is not finished then.
+func TestTableFinishStopsAfterMostSteps(t *testing.T) {
+	x := longSearches()
+	if len(impl.TableMap(x)) != 12 {
+		t.Fatal("the map is", impl.TableMap(x))
+	}
+	end := impl.TableFinish(x)
+	if impl.TableIdle(end) || !impl.SameTable(end, tableRoundsWant(x, 3000)) || impl.SameTable(end, impl.TableStep(end, 0)) {
+		t.Errorf("after 3000 steps there are %d of 38 reports", len(impl.TableTells(end)))
+	}
+	if !impl.SameTable(impl.TableRounds(x, 2999), tableRoundsWant(x, 2999)) {
+		t.Error("2999 steps in turn are others")
+	}
+	for _, n := range []int{3000, 3001, 9000, math.MaxInt} {
+		if !impl.SameTable(impl.TableRounds(x, n), end) {
+			t.Errorf("%d steps in turn are not 3000", n)
+		}
+	}
+	for range 4 {
+		if !impl.SerialOk(end) {
+			t.Error("the history of a table that is not finished is refused")
+		}
+		end = impl.TableFinish(end)
+	}
+	if !impl.TableIdle(end) || impl.Codes(end.Log, impl.CdOk) != 38 || !impl.SerialOk(end) {
+		t.Errorf("in the end there are %d of 38 reports", impl.Codes(end.Log, impl.CdOk))
+	}
+}
+
 func TestRoundsOfInvalidTables(t *testing.T) {
 	for i, x := range badTables(t) {
 		if !sameParts(impl.TableRounds(x, 10), x) || !sameParts(impl.TableFinish(x), x) {

@@ -107,6 +107,30 @@ func TestCareOfInvalidTables(t *testing.T) {
 			t.Errorf("there is something in the invalid table %d", i)
 		}
 	}
+	// Of these there would be something of each kind in the valid table.
+	x := someTable(t)
+	for w, pc := range []int{impl.TpWalk, impl.TpLock} {
+		x.Jobs[w] = oddTJob(fullBatch(), pc)
+		x.Jobs[w].H = 33
+	}
+	if len(impl.Linked(x)) == 0 || len(impl.Pending(x)) == 0 || len(impl.TableGuarded(x)) == 0 || !impl.TableSafe(x) || !impl.TableAccounted(x) {
+		t.Fatal("there is nothing in a valid table")
+	}
+	for i, change := range []func(x *impl.Table){
+		func(x *impl.Table) { x.Serial = -1 },
+		func(x *impl.Table) { x.Bkts[0].Ver = -1 },
+		func(x *impl.Table) { x.Jobs[2].Held = []int{0} },
+		func(x *impl.Table) { x.Jobs[0].K = 101 },
+		func(x *impl.Table) { x.Todo[1].List = badBatches()[:1] },
+		func(x *impl.Table) { x.Base.Haz[0] = 1 },
+		func(x *impl.Table) { x.Base.Clock.Epoch = 3 },
+	} {
+		x := copyOfTable(x)
+		change(&x)
+		if len(impl.Linked(x)) != 0 || len(impl.Pending(x)) != 0 || len(impl.TableGuarded(x)) != 0 || impl.TableSafe(x) || impl.TableAccounted(x) {
+			t.Errorf("there is something in the table with change %d", i)
+		}
+	}
 }
 
 func TestLinked(t *testing.T) {
@@ -217,6 +241,11 @@ func TestTableAccounted(t *testing.T) {
 		func(x *impl.Table) { x.Base.Mem, _ = impl.FreeNow(x.Base.Mem, 0, 40) },
 		func(x *impl.Table) { x.Base.Mem, _ = impl.FreeNow(x.Base.Mem, 0, 32) },
 		func(x *impl.Table) { x.Base.Limbo, _ = impl.RetireTo(x.Base.Limbo, 0, 36, 1) },
+		// As many nodes as slots in use, but not the same.
+		func(x *impl.Table) {
+			x.Base.Limbo, _ = impl.RetireTo(x.Base.Limbo, 0, 36, 1)
+			x.Base.Mem, _, _ = impl.AllocNow(x.Base.Mem, 0, 8)
+		},
 		func(x *impl.Table) { x.Serial = -1 },
 	} {
 		x := copyOfTable(good)
